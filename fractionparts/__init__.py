@@ -1,0 +1,1 @@
+"""Quotients of rows of fractions, taken apart and grown."""
