@@ -1,9 +1,10 @@
 """Rows: tuples of fractions, at place k how often a row has the letter's k-th power, the last one not nought."""
 
-from math import gcd, lcm
+from math import lcm
 
 from fractionparts.errors import NoRow, Nought
 from fractionparts.numbers import ZERO, fraction, is_fraction, product_of, sum_of
+from fractionparts.wholes import least_factors, taken_away, without_last
 
 
 def is_row(thing):
@@ -23,14 +24,6 @@ def refuse_no_row(thing):
         raise NoRow("something handed in as a row is none")
 
 
-def without_noughts_behind(parts):
-    """The row of a list of fractions that may end in noughts."""
-    length = len(parts)
-    while length > 0 and parts[length - 1] == ZERO:
-        length -= 1
-    return tuple(parts[:length])
-
-
 def over_one_bottom(row):
     """The pair (tops, bottom): a list of whole numbers that give the row when each is divided by bottom."""
     bottom = 1
@@ -41,7 +34,7 @@ def over_one_bottom(row):
 
 def row_over(tops, bottom):
     """The row of whole numbers that are each divided by bottom."""
-    return without_noughts_behind([fraction(top, bottom) for top in tops])
+    return tuple(without_last([fraction(top, bottom) for top in tops], ZERO))
 
 
 def plus(one, other):
@@ -50,7 +43,7 @@ def plus(one, other):
     refuse_no_row(other)
     shorter = min(len(one), len(other))
     sums = [sum_of(first, second) for first, second in zip(one, other)]
-    return without_noughts_behind([*sums, *one[shorter:], *other[shorter:]])
+    return tuple(without_last([*sums, *one[shorter:], *other[shorter:]], ZERO))
 
 
 def times(one, other):
@@ -69,20 +62,6 @@ def times(one, other):
     return row_over(tops, first_bottom * second_bottom)
 
 
-def last_taken_away(tops, taken):
-    """The pair (rest, factor): tops times factor, less that multiple of taken that ends it in nought, cut by one."""
-    # The least factor that keeps the numbers whole keeps them short, too.
-    shared = gcd(tops[-1], taken[-1])
-    factor = taken[-1] // shared
-    often = tops[-1] // shared
-    start = len(tops) - len(taken)
-    rest = [top * factor for top in tops]
-    for place, top in enumerate(taken):
-        rest[start + place] -= top * often
-    rest.pop()
-    return rest, factor
-
-
 def divided(one, other):
     """The pair (whole, rest) with one = whole * other + rest, the rest shorter than the other."""
     refuse_no_row(one)
@@ -94,7 +73,9 @@ def divided(one, other):
     backwards = []
     while len(rest) >= len(taken):
         backwards.append(fraction(rest[-1] * taken_bottom, bottom * taken[-1]))
-        rest, factor = last_taken_away(rest, taken)
+        # The least factor that keeps the numbers whole keeps them short, too.
+        factor, often = least_factors(rest[-1], taken[-1])
+        rest = taken_away(rest, factor, taken, often, len(rest) - len(taken))[:-1]
         bottom = bottom * factor
     return tuple(backwards[::-1]), row_over(rest, bottom)
 

@@ -1,4 +1,4 @@
-"""Things that are neither fractions nor rows, some of which fail when they are touched."""
+"""Things that are no fractions, no rows or no quotients, some of which fail when they are touched."""
 
 from fractions import Fraction
 
@@ -112,5 +112,32 @@ NEARLY_ROWS = [
     "((1, 1),)", ((1, 1), True), (False, (1, 1)),
 ]
 
+ONE = ((1, 1),)
+LETTER = ((0, 1), (1, 1))
+
+ROWS = [(), ONE, ((-3, 4),), LETTER, ((1, 1), (1, 1)), ((1, 2), (0, 1), (1, 1)), ((0, 1), (0, 1), (2, 1))]
+
+# Made of rows, or nearly so, and no quotients: the bottom isn't led, is nought, or shares something with the top; there
+# are too few or too many rows; something is no row, or the kind is another one.
+NEARLY_QUOTIENTS = [
+    (ONE, ((2, 1),)), (ONE, ((-1, 1),)), (ONE, ((1, 2),)), ((), ((2, 1),)), (LETTER, ((3, 2),)),
+    (ONE, ((0, 1), (2, 1))), (ONE, ((0, 1), (-1, 1))), (ONE, ((1, 1), (1, 1), (1, 2))), ((), ((0, 1), (-1, 1))),
+    (ONE, ()), (LETTER, ()), ((), ()), (((2, 1),), ()),
+    (LETTER, LETTER), ((), LETTER), ((), ((1, 1), (0, 1), (1, 1))), (((0, 1), (5, 1)), LETTER),
+    (((-1, 1), (0, 1), (1, 1)), ((1, 1), (1, 1))), (((1, 1), (1, 1)), ((-1, 1), (0, 1), (1, 1))),
+    (((0, 1), (0, 1), (1, 2)), ((0, 1), (1, 1), (1, 1))), (((1, 2), (1, 1)), ((1, 4), (1, 1), (1, 1))),
+    (((0, 1), (2, 1)), ((0, 1), (2, 1))),
+    (), (ONE,), (LETTER,), (ONE, ONE, ONE), ((), ONE, ()), (ONE, None), (None, ONE), (ONE, True), (False, ONE),
+    [ONE, ONE], [(), ONE], ([(1, 1)], ONE), (ONE, [(1, 1)]), (([1, 1],), ONE), (ONE, ([1, 1],)), ([], ONE),
+    (((0, 1),), ONE), (((1, 1), (0, 1)), ONE), (ONE, ((1, 1), (0, 1))), (ONE, ((1, 1), (1, 1), (0, 1))),
+    (((2, 2),), ONE), (ONE, ((2, 2),)), (((1, 1), (2, 4)), LETTER), (ONE, ((2, 4), (1, 1))), (((1, 0),), ONE),
+    (((True, 1),), ONE), (ONE, ((True, 1),)), (ONE, ((1, True),)), (ONE, ((False, 1), (1, 1))),
+    (((1.0, 1),), ONE), (ONE, ((1.0, 1),)), ((1, 1), ONE), (ONE, (1, 1)), (ONE, 1), (1, ONE), ((ONE, ONE), ONE),
+    (Touchy(), ONE), (ONE, Touchy()), (ONE, Closed()), (OfTouchyKind(), ONE), (TouchyTuple(ONE), ONE),
+    (ONE, TouchyTuple(ONE)), TouchyTuple((ONE, ONE)), (ONE, (TouchyTuple((1, 1)),)), (ONE, ((1, TouchyNumber(1)),)),
+    {0: ONE, 1: ONE}, {ONE: ONE}, iter([ONE, ONE]), (iter(ONE), ONE), (Fraction(1), ONE), "(((1, 1),), ((1, 1),))",
+]
+
 NO_FRACTIONS = NEITHER + NEARLY_ROWS + [()]
 NO_ROWS = NEITHER + FRACTIONS + NEARLY_ROWS
+NO_QUOTIENTS = NEITHER + FRACTIONS + NEARLY_ROWS + ROWS + NEARLY_QUOTIENTS

@@ -11,6 +11,11 @@ FUNCTIONS = {
                 "product_of": ["one", "other"], "part_of": ["one", "other"]},
     "rows": {"is_row": ["thing"], "plus": ["one", "other"], "times": ["one", "other"],
              "divided": ["one", "other"], "rate": ["row"]},
+    "sharing": {"common": ["one", "other"]},
+    "quotients": {"is_quotient": ["thing"], "quotient": ["top", "bottom"], "joined": ["one", "other"],
+                  "rated": ["one"]},
+    "parting": {"parts": ["row", "told"], "apart": ["one", "told"]},
+    "growing": {"growth": ["one"]},
 }
 
 

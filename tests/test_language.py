@@ -10,7 +10,7 @@ PACKAGE = pathlib.Path(__file__).resolve().parent.parent / "fractionparts"
 FILES = sorted(PACKAGE.glob("*.py"))
 LIBRARY = {"math": {"gcd", "lcm", "isqrt", "comb", "perm", "factorial"}}
 BUILTINS = set("""len range enumerate zip min max sum abs sorted reversed int str bool list tuple dict set isinstance
-    ord repr any all divmod iter next type ValueError TypeError KeyError IndexError LookupError
+    ord repr abs any all divmod iter next type ValueError TypeError KeyError IndexError LookupError
     ZeroDivisionError""".split())
 METHODS = {"append", "clear", "copy", "count", "extend", "get", "index", "insert", "items", "keys", "pop", "remove",
            "reverse", "setdefault", "update", "values", "bit_length"}

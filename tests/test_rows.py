@@ -1,52 +1,17 @@
 """Points 2 and 3, and of point 10 what it says of rows."""
 
-import itertools
 import unittest
 from fractions import Fraction
 
 from fractionparts.errors import NoRow, Nought
 from fractionparts.numbers import is_fraction
 from fractionparts.rows import divided, is_row, plus, rate, times
+from tests.reckoning import HUGE, LARGE, LETTER, ONE, SMALL, at, row
 from tests.strange import NO_ROWS
-
-HUGE = 10 ** 300
-ONE = ((1, 1),)
-LETTER = ((0, 1), (1, 1))
-
-
-def row(*numbers):
-    """The row of whole numbers and fractions of Python's own, as they are."""
-    values = [Fraction(number) for number in numbers]
-    return tuple([(value.numerator, value.denominator) for value in values])
 
 
 def minus(one):
     return times(((-1, 1),), one)
-
-
-def at(one, value):
-    """The number that a row gives for a value of its letter, reckoned without the program."""
-    return sum([Fraction(top, bottom) * value ** place for place, (top, bottom) in enumerate(one)], Fraction(0))
-
-
-def small_rows():
-    """Every row of up to three of these numbers."""
-    numbers = [Fraction(0), Fraction(1), Fraction(-2), Fraction(1, 2), Fraction(-3, 4)]
-    found = []
-    for length in range(4):
-        for choice in itertools.product(numbers, repeat=length):
-            if not choice or choice[-1] != 0:
-                found.append(row(*choice))
-    return found
-
-
-SMALL = small_rows()
-
-LARGE = [
-    row(HUGE, 0, 0, -HUGE), row(Fraction(1, HUGE), 1), row(*range(1, 30)), row(*[0] * 40, Fraction(3, 7)),
-    row(*[Fraction(1, k) for k in range(1, 15)]), row(Fraction(-HUGE, 7)), row(6, -12, 0, 18),
-    row(*[Fraction(k * k - 50, k + 1) for k in range(1, 9)]),
-]
 
 
 class RowTest(unittest.TestCase):
